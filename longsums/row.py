@@ -1,0 +1,47 @@
+"""A row of bytes of a kind, and its sum."""
+
+from longsums.blocks import all_stirred
+from longsums.tables import BLOCK, SIZES, STARTS
+
+
+def known_kind(kind):
+    return 0 <= kind < len(SIZES)
+
+
+def big_end_first(number, size):
+    return [(number >> (8 * place)) & 255 for place in range(size - 1, -1, -1)]
+
+
+def padding(length):
+    # The byte 128 and the 16 bytes of the length must always fit in: 17 bytes of the last block are theirs.
+    zeros = (BLOCK - 17 - length) % BLOCK
+    return [128] + [0] * zeros + big_end_first(8 * length, 16)
+
+
+# Whole blocks are stirred in as they come, so that asking for the sum again and again stays cheap.
+class Row:
+    def __init__(self, kind):
+        self.kind = kind
+        self.words = list(STARTS[kind])
+        self.rest = []
+        self.length = 0
+
+    def add(self, data):
+        waiting = self.rest + data
+        whole = len(waiting) - len(waiting) % BLOCK
+        self.words = all_stirred(self.words, waiting[:whole])
+        self.rest = waiting[whole:]
+        self.length = self.length + len(data)
+
+    def told(self):
+        # The padding goes into words of its own, so that more bytes may be added behind the row afterwards.
+        answer = []
+        for word in all_stirred(self.words, self.rest + padding(self.length)):
+            answer.extend(big_end_first(word, 8))
+        return answer[:SIZES[self.kind]]
+
+
+def sum_of(kind, data):
+    row = Row(kind)
+    row.add(data)
+    return row.told()
