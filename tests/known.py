@@ -1,6 +1,9 @@
-"""Fixed values that the tests hold the program to, also where Python's hashlib has no SHA-512/256."""
+"""Fixed values that the tests hold the program to, also where Python's hashlib has no SHA-512/256.
 
-# FIPS 180-4: the examples of one block and of two, and the sums of no bytes, for kinds 0, 1 and 2.
+The values were written out by Python's hashlib and hmac, not copied from the standards' own pages.
+"""
+
+# The messages of the examples to FIPS 180-4, of one block and of two, and no bytes: the sums of kinds 0, 1 and 2.
 EXAMPLES = (
     (
         "",
@@ -64,7 +67,7 @@ SHORT_MARKS = {
     1024: "5d8c79b51602abc6aefb198dda7cf2e9ed762f324e9b68fe47bbc6ec0e4d1cbc",
 }
 
-# RFC 4231, 4.2 to 4.8 without the cut one (4.6): key, data, HMAC-SHA-512, HMAC-SHA-384, all in hex.
+# The inputs of RFC 4231, 4.2 to 4.8 without the cut one (4.6): key, data, HMAC-SHA-512, HMAC-SHA-384, in hex.
 RFC_4231 = (
     (
         "0b0b0b0b0b0b0b0b0b0b0b0b0b0b0b0b0b0b0b0b",
