@@ -1,6 +1,6 @@
 """HMAC (RFC 2104) with the sums of every kind."""
 
-from longsums.row import sum_of
+from longsums.row import Row, sum_of
 from longsums.tables import BLOCK
 
 INNER_PAD = 0x36
@@ -12,11 +12,22 @@ def key_block(kind, key):
     return short_key + [0] * (BLOCK - len(short_key))
 
 
-def padded(block, pad):
-    return [byte ^ pad for byte in block]
+def row_begun(kind, block, pad):
+    row = Row(kind)
+    row.add([byte ^ pad for byte in block])
+    return row
+
+
+# The key goes into two rows once and for all: sl_slow and sl_draw make many marks under one key.
+class Marker:
+    def __init__(self, kind, key):
+        block = key_block(kind, key)
+        self.inner = row_begun(kind, block, INNER_PAD)
+        self.outer = row_begun(kind, block, OUTER_PAD)
+
+    def mark(self, data):
+        return self.outer.told_with(self.inner.told_with(data))
 
 
 def mark_of(kind, key, data):
-    block = key_block(kind, key)
-    inner = sum_of(kind, padded(block, INNER_PAD) + data)
-    return sum_of(kind, padded(block, OUTER_PAD) + inner)
+    return Marker(kind, key).mark(data)

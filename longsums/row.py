@@ -33,15 +33,18 @@ class Row:
         self.rest = waiting[whole:]
         self.length = self.length + len(data)
 
-    def told(self):
-        # The padding goes into words of its own, so that more bytes may be added behind the row afterwards.
+    def told_with(self, data):
+        # What is told is the sum as if data stood behind the row. It goes into words of its own, so that the row
+        # stays: more bytes may be added afterwards, and a key's blocks need not be stirred again for each mark.
+        ending = self.rest + data + padding(self.length + len(data))
         answer = []
-        for word in all_stirred(self.words, self.rest + padding(self.length)):
+        for word in all_stirred(self.words, ending):
             answer.extend(big_end_first(word, 8))
         return answer[:SIZES[self.kind]]
 
+    def told(self):
+        return self.told_with([])
+
 
 def sum_of(kind, data):
-    row = Row(kind)
-    row.add(data)
-    return row.told()
+    return Row(kind).told_with(data)

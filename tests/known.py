@@ -133,3 +133,174 @@ RFC_4231 = (
         "a678cc31e799176d3860e6110c46523e",
     ),
 )
+
+# PBKDF2 of the words and the salt (texts), by rounds: as many bytes as each kind has, of kinds 0, 1 and 2.
+SLOW_TEXTS = (
+    (
+        "password", "salt", 1,
+        (
+            "867f70cf1ade02cff3752599a3a53dc4af34c7a669815ae5d513554e1c8cf252"
+            "c02d470a285a0501bad999bfe943c08f050235d7d68b1da55e63f73b60a57fce",
+            "c0e14f06e49e32d73f9f52ddf1d0c5c7191609233631dadd76a567db42b78676"
+            "b38fc800cc53ddb642f5c74442e62be4",
+            "4b6a63117d3ec0032624616082c1c1912f56fa5f0c1f94574d515e20e5ddd74a",
+        ),
+    ),
+    (
+        "password", "salt", 2,
+        (
+            "e1d9c16aa681708a45f5c7c4e215ceb66e011a2e9f0040713f18aefdb866d53c"
+            "f76cab2868a39b9f7840edce4fef5a82be67335c77a6068e04112754f27ccf4e",
+            "54f775c6d790f21930459162fc535dbf04a939185127016a04176a0730c6f1f4"
+            "fb48832ad1261baadd2cedd50814b1c8",
+            "fcfd108c99cc888ec0af9f184885aff5f02d19a956afad9ccea4d56a482b851b",
+        ),
+    ),
+    (
+        "passwordPASSWORDpassword", "saltSALTsaltSALTsaltSALTsaltSALTsalt", 3,
+        (
+            "e3ad582d92516a866ef6a2725080fbee6f7cd51734047789cccdae6581e79529"
+            "601c42bf26261838b697a3a819e36dab84f1987867fc40a605429d6c540e3cb2",
+            "5b55a9d4eb756e54a3308e935e36e1b6c5fdf977d061fdd671ef39e1827811c8"
+            "ab46420cb809b5cb295ac7c699193c43",
+            "aed82c4446a6e4cd9087161b0f69620423eb487437ce682b2d68bce6e364494d",
+        ),
+    ),
+)
+
+# PBKDF2 with SHA-512/256: rounds, how many bytes are made, how long the words pattern(..) and the salt pattern(..) are.
+SHORT_SLOW = (
+    (
+        1, 1, 5, 4,
+        "81",
+    ),
+    (
+        1, 31, 5, 4,
+        "81224975621763cdcb61f98102cf4c8f1040c214accf202a70dee695dbc8b0",
+    ),
+    (
+        2, 32, 5, 4,
+        "bc233c4c9d0f9aa5f6b3628d9b8c78ad80d4286230d1664ad903fb81b968e4b9",
+    ),
+    (
+        3, 33, 5, 4,
+        "fbcbed6c1fd25e091be240f0abfbd0405b68a5ae5a6a36828f0c30331bebb86f"
+        "c3",
+    ),
+    (
+        300, 65, 5, 4,
+        "f1d299aff3fb9931735ceda411da130b560db4f86c63cf634acf9f6161bfa59e"
+        "ae4d30877288bd031a00b3bb4b767319db8c3f24f5728b202b9e00c27aa35a47"
+        "0f",
+    ),
+    (
+        2, 100, 0, 0,
+        "299f42d6a6edb0d4d420fe20ea7640f0e5af2d30c0b2a71186712db28970f2c0"
+        "4bfb7ac5f22c22b599f614f1d27e5d37f9195b3015bebea623a3e8175e1589ae"
+        "100f0883cff04a215a26b31f76fae744154fda0592867a49dc395a7856eac503"
+        "0a6d5507",
+    ),
+    (
+        2, 33, 127, 128,
+        "afa1e2c338ced8354ed272efaf89324c7243b3c4e13b2f5ede96e11ec1dbcecd"
+        "48",
+    ),
+    (
+        2, 33, 128, 127,
+        "576c391cd91b823f94f30f43884e5958b642916bd30602db47f0717fe1eca10a"
+        "36",
+    ),
+    (
+        2, 33, 129, 129,
+        "cc4a1ec50f63f4f5fa07562920261cf79817a6e3a0f111eaa243af9d91d1cae5"
+        "fd",
+    ),
+    (
+        2, 33, 1024, 1024,
+        "ea0b6536b17da8d3cd22ec4fcca9cbe7c4c742003ac6d7955236997076a1a4c4"
+        "5e",
+    ),
+)
+
+# HKDF with SHA-512/256: how many bytes are made, how long the secret, the salt and the use are, each a pattern(..).
+SHORT_DRAWN = (
+    (
+        1, 22, 13, 10,
+        "a5",
+    ),
+    (
+        31, 22, 13, 10,
+        "a51105f42132c6b5df842a28098e51d3a1cb090620c247483ad73e9f1f7c08",
+    ),
+    (
+        32, 22, 13, 10,
+        "a51105f42132c6b5df842a28098e51d3a1cb090620c247483ad73e9f1f7c087a",
+    ),
+    (
+        33, 22, 13, 10,
+        "a51105f42132c6b5df842a28098e51d3a1cb090620c247483ad73e9f1f7c087a"
+        "ef",
+    ),
+    (
+        100, 22, 13, 10,
+        "a51105f42132c6b5df842a28098e51d3a1cb090620c247483ad73e9f1f7c087a"
+        "efe6a8ff1e72e41aa89597e22596f45a16ca5753edb3a96c29fa82ca7584a6fc"
+        "464d152cf722007ab69b82f37469c92ddcd4012e8a41b1b8d83f5b0898cc7116"
+        "45892af2",
+    ),
+    (
+        42, 80, 80, 80,
+        "e7b884f00d7213933763bf362c62ba5a869093b5463d5d3b04db2b34d9cc191f"
+        "66d09a385ed09b1a0937",
+    ),
+    (
+        42, 22, 0, 0,
+        "ae3e198fd34a8745a5e4984858bf79b5eafadc69d3911a0ed20a29974d243d50"
+        "c6185fd4a22daa9c1c2e",
+    ),
+    (
+        65, 0, 0, 0,
+        "2166df769725d8c49e96a3cb11a39aad0eecd0f16ae311ecc00cc2ad510c1b96"
+        "61d0572fc143982ec09a76152980aebc3bab7fb8e253c4721211cdf3f2f1bb45"
+        "97",
+    ),
+    (
+        33, 127, 128, 129,
+        "c72d56d3022940fcd43d8d21bdc2b6f09cef15849989394617e6e7cc5f69a6f1"
+        "42",
+    ),
+    (
+        33, 128, 129, 127,
+        "51a0ece6e9f499ed6e2b9a016cd6d1f96d87614d3d13b2c4b190e457c00e45f9"
+        "3a",
+    ),
+    (
+        33, 129, 127, 128,
+        "fb7ce8dd8bb2ebb5db191b46911ce13c0b334abb994c4b777cd5a1bd7c07a61c"
+        "c1",
+    ),
+    (
+        33, 1024, 1024, 1024,
+        "b177afb0f48b617932f0ff505119c51312ceb51ab3b308747cc5169fd4045f0f"
+        "37",
+    ),
+)
+
+# The tree with SHA-512/256 over pattern(width * count): width, count, its sum.
+SHORT_TREES = (
+    (0, 1, "10baad1713566ac2333467bddb0597dec9066120dd72ac2dcb8394221dcbe43d"),
+    (1, 1, "fd0ff102b04ae2f6c060f13ac98d7377cab4e391b81b9cd78c00789a63d36827"),
+    (0, 2, "862fbbfbb277ef113962dfb13b639afcbbf15fd0cb45297caafd13c69e05db36"),
+    (5, 3, "c62d636c3a2107253a12989879b6a329ec25ca89a7b1e6879e8b4fcf97ffae64"),
+    (110, 4, "332be91fd113614f95cdf492ccdd15d6639bf6fe031bcf6d70dec8d84a7902a2"),
+    (111, 5, "d2c37975eb118e702be69006b2262f817f972cb5a9e3b9902c253c37f21c1ca1"),
+    (127, 6, "b58dacc7cf65406a6b829abc3520b2b64ed48bff70e91f329f0c9286b11f8914"),
+    (128, 7, "b22018cfedb853f7370e9ca6282468f12420610a40dab88352839be41ee9c59b"),
+    (256, 8, "d20dc590be7eac034a02660abd70efd12e1e2dbd554206aa86b66518a3bad2fc"),
+    (9, 9, "0185b5c1682793d47d8ebfa6f504540bcef407a024632b52809e09e560b74d6c"),
+    (9, 11, "bb07630ef8cb4be83ec7659496bc5d475eded25a697b354ab19f4fcc12569c6b"),
+    (9, 13, "4636630cd66c2f824b641b3d514ab698ab3387ef4a5775205c957f15a0299db8"),
+    (3, 255, "310162c45deaca0ccf568aa40ec2d3080026f921393022cbc20e9f1e127d918a"),
+    (3, 256, "eb23e626611f849d6a8a0b1b22468a44e4d6b8fc742c735f6037a7609826075e"),
+    (256, 116, "8b6a3b681275dae46f9d82166ce157f19e37b2301833a9c34fa38f0063166f24"),
+)

@@ -10,6 +10,7 @@ NAMES = ("sha512", "sha384", "sha512_256")
 SIZES = (64, 48, 32)
 KINDS = (0, 1, 2)
 WRONG_KINDS = (-1, 3, -2147483648, 2147483647)
+WRONG_MADE = (0, 1025, 4294967295)
 EDGES = (0, 1, 111, 112, 113, 127, 128, 129, 239, 240, 241, 255, 256, 257)
 
 TOLD = [2]
@@ -38,6 +39,18 @@ def add_too_much(size):
 
 def mark(kind, key, data):
     return [3, kind, len(key)] + key + [len(data)] + data
+
+
+def slow(kind, rounds, size, words, salt):
+    return [4, kind, rounds, size, len(words)] + words + [len(salt)] + salt
+
+
+def draw(kind, size, secret, salt, use):
+    return [5, kind, size, len(secret)] + secret + [len(salt)] + salt + [len(use)] + use
+
+
+def rows(kind, width, count, data):
+    return [6, kind, width, count, len(data)] + data
 
 
 def split(given):
@@ -70,6 +83,56 @@ def reference_sum(kind, data):
 
 def reference_mark(kind, key, data):
     return list(hmac.new(bytes(key), bytes(data), NAMES[kind]).digest())
+
+
+def reference_slow_by_marks(kind, rounds, size, words, salt):
+    made = []
+    place = 1
+    while len(made) < size:
+        last = reference_mark(kind, words, salt + list(place.to_bytes(4, "big")))
+        mixed = int.from_bytes(last, "big")
+        for _ in range(rounds - 1):
+            last = reference_mark(kind, words, last)
+            mixed ^= int.from_bytes(last, "big")
+        made.extend(mixed.to_bytes(SIZES[kind], "big"))
+        place += 1
+    return made[:size]
+
+
+def reference_slow(kind, rounds, size, words, salt):
+    try:
+        return list(hashlib.pbkdf2_hmac(NAMES[kind], bytes(words), bytes(salt), rounds, size))
+    except ValueError:
+        return reference_slow_by_marks(kind, rounds, size, words, salt)
+
+
+def drawn_by(name, size, secret, salt, use):
+    zeros = bytes(hashlib.new(name).digest_size)
+    key = hmac.digest(bytes(salt) or zeros, bytes(secret), name)
+    made = b""
+    last = b""
+    place = 1
+    while len(made) < size:
+        last = hmac.digest(key, last + bytes(use) + bytes([place]), name)
+        made += last
+        place += 1
+    return list(made[:size])
+
+
+def reference_draw(kind, size, secret, salt, use):
+    return drawn_by(NAMES[kind], size, secret, salt, use)
+
+
+def reference_pair(kind, left, right):
+    return reference_sum(kind, [1] + left + right)
+
+
+def reference_rows(kind, width, count, data):
+    level = [reference_sum(kind, [0] + data[width * place:width * place + width]) for place in range(count)]
+    while len(level) > 1:
+        odd = [level.pop()] if len(level) % 2 else []
+        level = [reference_pair(kind, left, right) for left, right in zip(level[::2], level[1::2])] + odd
+    return level[0]
 
 
 def first_difference(given, expected):

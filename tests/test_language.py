@@ -51,6 +51,36 @@ def bound_names(tree):
             yield node.id
 
 
+def local_names(tree):
+    for node in ast.walk(tree):
+        if isinstance(node, ast.FunctionDef):
+            for inner in ast.walk(node):
+                if isinstance(inner, ast.arg):
+                    yield inner.arg
+                elif isinstance(inner, ast.Name) and isinstance(inner.ctx, ast.Store):
+                    yield inner.id
+
+
+def names_of_the_top(tree):
+    for node in tree.body:
+        if isinstance(node, ast.ClassDef):
+            yield node.name
+        elif isinstance(node, ast.ImportFrom):
+            for alias in node.names:
+                yield alias.name
+
+
+def methods_and_values(tree):
+    methods = set()
+    values = set()
+    for node in ast.walk(tree):
+        if isinstance(node, ast.ClassDef):
+            methods.update(inner.name for inner in node.body if isinstance(inner, ast.FunctionDef))
+        elif isinstance(node, ast.Attribute) and isinstance(node.ctx, ast.Store):
+            values.add(node.attr)
+    return methods, values
+
+
 class LanguageTest(unittest.TestCase):
     def test_files(self):
         self.assertIn(PACKAGE / "desk.py", package_files())
@@ -102,6 +132,18 @@ class LanguageTest(unittest.TestCase):
             for node in ast.walk(tree):
                 if isinstance(node, ast.Name) and hasattr(builtins, node.id):
                     self.assertIn(node.id, ALLOWED_BUILTINS, path)
+
+    def test_locals_are_not_called_like_imports_or_classes(self):
+        for path, tree in trees().items():
+            self.assertEqual(set(local_names(tree)) & set(names_of_the_top(tree)), set(), path)
+
+    def test_no_name_is_a_method_here_and_a_value_there(self):
+        found = [methods_and_values(tree) for tree in trees().values()]
+        methods = set().union(*(names for names, values in found))
+        values = set().union(*(values for names, values in found))
+        self.assertIn("told", methods)
+        self.assertIn("words", values)
+        self.assertEqual(methods & values, set())
 
     def test_methods(self):
         own = {name for tree in trees().values() for name in bound_names(tree)}
