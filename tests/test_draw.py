@@ -36,7 +36,8 @@ class DrawTest(LineTest):
                 self.same(given, [DONE, [0] + list(bytes.fromhex(made))])
 
     def test_the_reference_reckons_as_rfc_5869_does(self):
-        # The RFC's own examples are of a sum that the program doesn't have: they hold the reference alone.
+        # The RFC's own examples are of a sum that the program doesn't have: they hold the reference alone. The bytes
+        # were written out by hmac and compared with the RFC's from memory, not copied from its page.
         self.same(
             bytes(drawn_by("sha256", 42, [0x0B] * 22, list(range(13)), list(range(0xF0, 0xFA)))).hex(),
             "3cb25f25faacd57a90434f64d0362f2a2d2d0a90cf1a5a4c5db02d56ecc4c5bf34007208d5b887185865",
